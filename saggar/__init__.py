@@ -1,0 +1,1 @@
+"""Saggar: a living image of objects."""
