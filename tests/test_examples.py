@@ -120,6 +120,49 @@ CODING = """
 """
 
 
+CHECKING = """
+>>> from saggar.checking import check_code, heights
+>>> from saggar.coding import Draft
+>>> draft = Draft("f", 0, 1, 1, [("local", 0), ("jump_false", 0), ("self", 0), ("return", 0)], [])
+>>> [check_code(draft, 0), heights(draft)]
+[None, {0: 0, 1: 1, 2: 0, 3: 1}]
+>>> check_code(Draft("f", 0, 1, 1, [("local", 0), ("local", 1), ("return", 0)], []), 0)
+('arg', 1)
+"""
+
+LISTING = """
+>>> from saggar.coding import Draft
+>>> from saggar.listing import list_draft, number_of
+>>> list_draft(Draft("f", 0, 0, 1, [("literal", 0), ("return", 0)], [("symbol", "a b")]))
+['method f 0 0 1', 'symbol a b', 'code', 'literal 0', 'return']
+>>> number_of("send", 33)
+983073
+"""
+
+KERNEL = """
+>>> from saggar.kernel import define_class, new_image
+>>> image = new_image(2000, 200)
+>>> define_class(image, "Point", "Object", ["x", "y"])
+>>> define_class(image, "Spot", "Point", ["colour"])
+>>> [image.fields(image.class_named("Spot")), image.layout(image.class_named("Spot")), image.global_names()[15:]]
+[['x', 'y', 'colour'], 3, ['Point', 'Spot']]
+>>> [image.class_name(image.class_of(0)), image.class_name(image.class_of(5)), image.class_name(image.class_of(image.symbol("a")))]
+['Undefined', 'Integer', 'Symbol']
+"""
+
+METHODS = """
+>>> from saggar.kernel import define_class, new_image
+>>> from saggar.lookup import lookup, selectors
+>>> from saggar.methods import install, source_of
+>>> image = new_image(4000, 400)
+>>> define_class(image, "Point", "Object", ["x"])
+>>> point = image.class_named("Point")
+>>> method = install(image, point, "x ^ x")
+>>> [selectors(image, point), lookup(image, point, image.symbol("x")) == method, source_of(image, method)]
+[['x'], True, 'x ^ x']
+"""
+
+
 class Examples(unittest.TestCase):
     def test_words(self):
         run_session(self, WORDS)
@@ -147,6 +190,18 @@ class Examples(unittest.TestCase):
 
     def test_coding(self):
         run_session(self, CODING)
+
+    def test_checking(self):
+        run_session(self, CHECKING)
+
+    def test_listing(self):
+        run_session(self, LISTING)
+
+    def test_kernel(self):
+        run_session(self, KERNEL)
+
+    def test_methods(self):
+        run_session(self, METHODS)
 
 
 if __name__ == "__main__":

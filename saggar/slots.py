@@ -1,0 +1,42 @@
+"""Slots: what the slots of the objects of the kernel classes are for.
+
+Those of a context stand in saggar.contexts.
+"""
+
+# A class.
+CLASS_NAME = 0
+CLASS_ABOVE = 1
+CLASS_FIELDS = 2
+CLASS_METHODS = 3
+CLASS_LAYOUT = 4
+CLASS_SIZE = 5
+# An association.
+GLOBAL_NAME = 0
+GLOBAL_VALUE = 1
+# A method.
+METHOD_SELECTOR = 0
+METHOD_OWNER = 1
+METHOD_SOURCE = 2
+METHOD_CODE = 3
+METHOD_LITERALS = 4
+METHOD_ARGC = 5
+METHOD_LOCALS = 6
+METHOD_STACK = 7
+# A block.
+BLOCK_OUTER = 0
+BLOCK_DESCRIPTOR = 1
+# The descriptor of a block.
+DESCRIPTOR_ARGC = 0
+DESCRIPTOR_LOCALS = 1
+DESCRIPTOR_START = 2
+DESCRIPTOR_STACK = 3
+# A process.
+PROCESS_CONTEXT = 0
+PROCESS_NEXT = 1
+PROCESS_NUMBER = 2
+PROCESS_STATE = 3
+PROCESS_RESULT = 4
+# A semaphore.
+SEMAPHORE_COUNT = 0
+SEMAPHORE_FIRST = 1
+SEMAPHORE_LAST = 2
