@@ -6,7 +6,7 @@ from saggar.lexing import DIGITS, MOST_DIGITS
 from saggar.ops import BARE, MOST_ARG, OPS
 
 # How many numbers each op has.
-SPAN = MOST_ARG + 1
+SPAN = 65536
 ESCAPES = {"\\n": "\n", "\\\\": "\\"}
 
 

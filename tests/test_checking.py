@@ -357,6 +357,9 @@ class Heights(unittest.TestCase):
         draft = draft_of("true, jump_false 5, nil, pop, jump 0, self, return")
         self.assertEqual(heights(draft), {0: 0, 1: 1, 2: 0, 3: 1, 4: 0, 5: 0, 6: 1})
 
+    def test_any_number_of_fields(self):
+        self.assertEqual(heights(draft_of("field 65535, return")), {0: 0, 1: 1})
+
     def test_the_order_of_the_keys_does_not_matter(self):
         draft = draft_of("jump 2, return, self, jump 1")
         self.assertEqual(heights(draft), {0: 0, 1: 1, 2: 0, 3: 1})

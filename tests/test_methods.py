@@ -318,9 +318,16 @@ class Want(unittest.TestCase):
 
     def test_symbols_come_before_objects(self):
         image = points()
+        image.space.collect()
         image.store().room = image.store().used()
-        image.symbols.most = image.symbols.count()
-        with self.assertRaises(NoSymbol):
+        count = image.symbols.count()
+        # The last one is that of a literal.
+        for more in range(6):
+            image.symbols.most = count + more
+            with self.assertRaises(NoSymbol):
+                install_long(image)
+        image.symbols.most = count + 6
+        with self.assertRaises(NoRoom):
             install_long(image)
 
 
