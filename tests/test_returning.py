@@ -167,6 +167,10 @@ class Programs(unittest.TestCase):
         self.assertEqual(self.shows("f [#a show. ^3] ensure: [#b show. 4]. ^5"), ["a", "b", ("int", 3)])
         self.assertEqual(self.shows("f [[#a show. ^3] value. #c show] ensure: [#b show. 4]. ^5"), ["a", "b", ("int", 3)])
 
+    def test_a_guard_in_a_block(self):
+        trace = traced("start ^[[^7] ensure: [#late show]. 3] value + 1", image=machine(5000, 1000))
+        self.assertEqual(trace, [("show", 1, ("symbol", "late")), ("end", 1, ("value", ("int", 7)))])
+
     def test_several(self):
         source = "f [[[^1] ensure: [#a show]] ensure: [#b show]] ensure: [#c show]. ^2"
         self.assertEqual(self.shows(source), ["a", "b", "c", ("int", 1)])
