@@ -171,7 +171,11 @@ class Image:
 
     def is_class(self, word):
         """Returns True if a word refers to a class."""
-        return is_ref(word) and self.class_of(word) == self.kernel("Class")
+        return self.is_a(word, "Class")
+
+    def is_a(self, word, name):
+        """Returns True if a word refers to an object of a kernel class."""
+        return is_ref(word) and self.class_of(word) == self.kernel(name)
 
     def is_below(self, word, other):
         """Returns True if a class is another one or below it."""

@@ -31,9 +31,13 @@ def source_of(image, method):
 
 def draft_for(image, owner, source):
     """Returns the Draft of a source for a class; raises BadMethod."""
+    return draft_with(image, owner, source, image.fields(owner))
+
+
+def draft_with(image, owner, source, fields):
+    """Returns the Draft that a source would have for a class with other fields."""
     tree = tree_for(image, owner, source)
     name = image.class_name(owner)
-    fields = image.fields(owner)
     try:
         draft = compile_method(tree, fields, image.global_names())
     except SaggarError as error:

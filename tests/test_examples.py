@@ -162,6 +162,127 @@ METHODS = """
 [['x'], True, 'x ^ x']
 """
 
+RUNNING = """
+>>> from saggar.kernel import new_image
+>>> from saggar.methods import install
+>>> from saggar.primitives import install_primitives
+>>> from saggar.processes import spawn
+>>> from saggar.running import run_image
+>>> image = new_image(5000, 1000)
+>>> install_primitives(image)
+>>> method = install(image, image.kernel("Undefined"), "start ^[[^7] ensure: [#late show]. 3] value + 1")
+>>> process = spawn(image, method, 0, [])
+>>> [run_image(image, [], 1000), image.trace]
+[('done',), [('show', 1, ('symbol', 'late')), ('end', 1, ('value', ('int', 7)))]]
+"""
+
+PLAN = """
+>>> from saggar.kernel import KERNEL
+>>> from saggar.plan import Kind, plan_change
+>>> kinds = [Kind(KERNEL[0], None, ())] + [Kind(name, "Object", ()) for name in KERNEL[1:]]
+>>> kinds = kinds + [Kind("A", "Object", ("x", "y")), Kind("B", "A", ("z",))]
+>>> [[change.name, change.new, change.origins] for change in plan_change(kinds, "A", "Object", ["y", "w", "x"])]
+[['A', ('y', 'w', 'x'), (1, None, 0)], ['B', ('y', 'w', 'x', 'z'), (1, None, 0, 2)]]
+"""
+
+RESHAPING = """
+>>> from saggar.kernel import define_class, define_global, new_image
+>>> from saggar.reshaping import reshape
+>>> from saggar.words import of_int
+>>> image = new_image(4000, 400)
+>>> define_class(image, "Point", "Object", ["x", "y"])
+>>> define_global(image, "Home")
+>>> point = image.space.new(image.class_named("Point"), 2)
+>>> image.put(image.association("Home"), 1, 2 * point)
+>>> image.put(2 * point, 0, of_int(7))
+>>> reshape(image, "Point", "Object", ["z", "x"])
+>>> [image.items(2 * point) == [0, of_int(7)], image.fields(image.class_named("Point"))]
+[True, ['z', 'x']]
+"""
+
+FAULTS = """
+>>> from saggar.faults import fault_of
+>>> from saggar.images import loaded, saved
+>>> from saggar.kernel import new_image
+>>> numbers = saved(new_image(1000, 100))
+>>> numbers[:10]
+[1000, 100, 15, 6, 79, 98, 106, 101, 99, 116]
+>>> [saved(loaded(numbers)) == numbers, fault_of(loaded(numbers))]
+[True, None]
+>>> loaded(numbers[:-1])
+raises BadImage("numbers")
+"""
+
+WORLDS = """
+>>> from saggar.worlds import run_script
+>>> commands = [("class", "Counter", "Object", ("n",)), ("method", "Counter", "bump n isNil ifTrue: [n := 0]. n := n + 1. self yield. ^ n")]
+>>> commands = commands + [("start", "f | c | c := Counter new. c bump show. c bump show"), ("run", (), 25), ("reload",)]
+>>> commands = commands + [("reshape", "Counter", "Object", ("log", "n")), ("run", (), 1000)]
+>>> run_script(8000, 2000, commands)
+([('ok',), ('ok',), ('started', 1), ('weary',), ('ok',), ('ok',), ('done',)], [('show', 1, ('int', 1)), ('show', 1, ('int', 2)), ('end', 1, ('value', ('nil',)))])
+"""
+
+INSPECTING = """
+>>> from saggar.inspecting import garbage, owners, paths, retained, retained_words, word_at
+>>> from saggar.spaces import Space
+>>> space = Space(100, 50)
+>>> [space.new(0, 0), space.new(0, 2), space.new(0, 1), space.new(0, 0), space.new(1, 0)]
+[0, 1, 2, 3, 4]
+>>> space.set_root(7, 2)
+>>> space.store.put(1, 0, 4)
+>>> space.store.put(1, 1, 6)
+>>> space.store.put(2, 0, 6)
+>>> found = paths(space)
+>>> [found[0], found[1], found[2], found[3], word_at(space, (8, 1, 1)), word_at(space, (8, 3))]
+[(0,), (8,), (8, 1), (8, 2), 6, None]
+>>> [garbage(space), retained(space, ("slot", 1, 0)), retained(space, ("root", 7))]
+[[4], [2], [1, 2, 3]]
+>>> own = owners(space)
+>>> [own[0], own[1], own[2], own[3], retained_words(space)[1]]
+[None, None, 1, 1, 12]
+"""
+
+COMPARING = """
+>>> from saggar.comparing import compare, judge
+>>> from saggar.spaces import Space
+>>> one = Space(100, 50)
+>>> other = Space(100, 50)
+>>> [one.new(0, 0), one.new(0, 2), one.new(0, 0)]
+[0, 1, 2]
+>>> [other.new(0, 0), other.new(0, 0), other.new(0, 2)]
+[0, 1, 2]
+>>> one.set_root(0, 2)
+>>> other.set_root(0, 4)
+>>> compare(one, other)
+('alike', [(0, 0), (1, 2)])
+>>> one.store.put(1, 1, 4)
+>>> other.store.put(2, 0, 2)
+>>> compare(one, other)
+('same', (0,), (1, 1))
+>>> [judge(one, other, ("size", (1,))), judge(one, other, ("same", (1, 1), (1, 2))), judge(one, other, ("same", (0,), (1, 2)))]
+[False, False, True]
+"""
+
+HISTORY = """
+>>> from saggar.history import History
+>>> from saggar.kernel import define_global, new_image
+>>> from saggar.methods import install
+>>> from saggar.primitives import install_primitives
+>>> from saggar.processes import spawn
+>>> image = new_image(5000, 1000)
+>>> install_primitives(image)
+>>> define_global(image, "Sum")
+>>> method = install(image, image.kernel("Undefined"), "go Sum := 1. Sum := Sum + 1. Sum show")
+>>> process = spawn(image, method, 0, [])
+>>> history = History(image, [], 4, ["Sum"])
+>>> [history.advance(100), history.steps(), history.kept()]
+[('done',), 13, [0, 4, 8, 12]]
+>>> history.changes()
+[(0, 0, 'Sum', ('nil',)), (2, 1, 'Sum', ('int', 1)), (7, 1, 'Sum', ('int', 2))]
+>>> [history.value("Sum", 6), history.setter("Sum", 6), history.first_break([("Sum", ("nil",))]), history.at(11).trace]
+[('int', 1), (2, 1), 2, [('show', 1, ('int', 2))]]
+"""
+
 
 class Examples(unittest.TestCase):
     def test_words(self):
@@ -202,6 +323,30 @@ class Examples(unittest.TestCase):
 
     def test_methods(self):
         run_session(self, METHODS)
+
+    def test_running(self):
+        run_session(self, RUNNING)
+
+    def test_plan(self):
+        run_session(self, PLAN)
+
+    def test_reshaping(self):
+        run_session(self, RESHAPING)
+
+    def test_faults(self):
+        run_session(self, FAULTS)
+
+    def test_worlds(self):
+        run_session(self, WORLDS)
+
+    def test_inspecting(self):
+        run_session(self, INSPECTING)
+
+    def test_comparing(self):
+        run_session(self, COMPARING)
+
+    def test_history(self):
+        run_session(self, HISTORY)
 
 
 if __name__ == "__main__":
