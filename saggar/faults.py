@@ -6,9 +6,8 @@ from saggar.contexts import FIXED, RECEIVER
 from saggar.graphs import row_of
 from saggar.kernel import CLASSES, FALSE, FALSE_ROOT, GLOBALS, KERNEL, MOST_FIELDS, TRUE, TRUE_ROOT
 from saggar.naming import is_field_name, is_global_name
-from saggar.slots import BLOCK_SIZE, CLASS_ABOVE, CLASS_FIELDS, CLASS_LAYOUT, CLASS_METHODS, CLASS_NAME, CLASS_SIZE
-from saggar.slots import GLOBAL_NAME, GLOBAL_SIZE, GLOBAL_VALUE, METHOD_LITERALS, METHOD_SIZE, PROCESS_RESULT
-from saggar.slots import PROCESS_SIZE, SEMAPHORE_SIZE
+from saggar.slots import CLASS_ABOVE, CLASS_FIELDS, CLASS_LAYOUT, CLASS_METHODS, CLASS_NAME, CLASS_SIZE
+from saggar.slots import GLOBAL_NAME, GLOBAL_VALUE, METHOD_LITERALS, PROCESS_RESULT
 from saggar.soundness import has_ensure, has_methods, is_sound
 from saggar.spaces import ROOTS
 from saggar.states import state_fault
@@ -17,14 +16,7 @@ from saggar.words import NIL, is_int, is_ref, is_symbol, is_word, of_int, symbol
 # The first root of those that are always nil.
 UNUSED = 9
 # How many slots all objects of a kernel class have.
-SIZES = {
-    "Object": 0,
-    "Association": GLOBAL_SIZE,
-    "Method": METHOD_SIZE,
-    "Block": BLOCK_SIZE,
-    "Process": PROCESS_SIZE,
-    "Semaphore": SEMAPHORE_SIZE,
-}
+SIZES = {"Object": 0, "Association": 2, "Method": 8, "Block": 2, "Process": 5, "Semaphore": 3}
 
 
 def fault_of(image):
@@ -131,7 +123,7 @@ def is_class_row(image, row):
         return False
     if not image.is_a(row[CLASS_FIELDS], "Array") or not image.is_a(row[CLASS_METHODS], "Array"):
         return False
-    return all([is_symbol(word) for word in image.row(row[CLASS_FIELDS])]) and is_int(row[CLASS_LAYOUT])
+    return all([is_symbol(word) for word in image.row(row[CLASS_FIELDS])])
 
 
 def lead_to_object(image, classes):

@@ -79,8 +79,7 @@ class History:
         """Returns the first step behind which a wish did not hold, or None."""
         breaks = []
         for name, what in wish:
-            others = [change[0] for change in self.noted_of[name] if change[3] != what]
-            breaks.extend(others[:1])
+            breaks.extend([change[0] for change in self.noted_of[name] if change[3] != what])
         return min(breaks, default=None)
 
     def branch(self, step, choices):

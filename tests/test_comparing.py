@@ -324,8 +324,25 @@ class Judges(unittest.TestCase):
                              ([(0, 0), (1, 2), (9, 1)], False), ([(0, 0), (1, 2), (2, 9)], False), ([(0, 0), (1, 2), (-1, -1)], False),
                              ([(0, 0), (1, 2), (10 ** 30, 1)], False)):
             self.assertIs(judge(one, other, ("alike", pairs)), found, pairs)
+        # Objects that are not reached stand in two pairs.
+        for space in (one, other):
+            space.new(0, 0)
+        for pairs, found in (([(0, 0), (1, 2), (2, 1), (3, 3)], True), ([(0, 0), (1, 2), (2, 1), (2, 3)], False),
+                             ([(0, 0), (1, 2), (2, 1), (3, 1)], False)):
+            self.assertIs(judge(one, other, ("alike", pairs)), found, pairs)
         one.hold(5)
         self.assertIs(judge(one, other, ("alike", [(0, 0), (1, 2)])), False)
+
+    def test_the_same_word_of_an_object_in_one(self):
+        one, other = pair()
+        one.new(0, 0)
+        one.set_root(4, 6)
+        other.set_root(4, 6)
+        for space, last in ((one, other), (other, one)):
+            self.assertEqual(compare(space, last), ("word", (5,)))
+            self.assertTrue(judge(space, last, ("word", (5,))))
+        self.assertIs(judge(one, other, ("alike", [(0, 0), (1, 2)])), False)
+        self.assertIs(judge(other, one, ("alike", [(0, 0), (2, 1)])), False)
 
     def test_others(self):
         one, other = pair()

@@ -13,22 +13,12 @@ from saggar.processes import current, ready, running
 from saggar.reshaping import reshape
 from saggar.running import run_image
 from saggar.words import GREATEST, LEAST, of_int
+from tests.breaking import Breaking, watch
 from tests.images import check_want_of_room
 from tests.machines import instance, machine, started
 from tests.test_programs import PROGRAMS, image_for
 from tests.test_running import ENDS, point_machine
 from tests.test_states import scene
-
-
-def watch(case, image, choices=(), limit=90):
-    """Runs an image step by step and looks before and behind each step."""
-    case.assertIsNone(fault_of(image))
-    for count in range(limit):
-        left = [choices[count % len(choices)]] if choices else []
-        if run_image(image, left, 1) != ("weary",):
-            break
-        case.assertIsNone(fault_of(image))
-    case.assertIsNone(fault_of(image))
 
 
 class InOrder(unittest.TestCase):
@@ -56,19 +46,19 @@ class InOrder(unittest.TestCase):
     def test_programs(self):
         for seed in range(2, 60, 20):
             program, choices = PROGRAMS[seed]
-            watch(self, image_for(program), choices)
+            watch(self, fault_of, image_for(program), choices, 90)
 
     def test_a_program_that_collects(self):
         program, choices = PROGRAMS[7]
         image = image_for(program)
         image.space.press([], always=True)
-        watch(self, image, choices, 60)
+        watch(self, fault_of, image, choices, 60)
 
     def test_ends(self):
         for source, _ in ENDS:
             image = point_machine()
             started(image, "go " + source)
-            watch(self, image)
+            watch(self, fault_of, image, limit=90)
             image.space.collect()
             self.assertIsNone(fault_of(image))
 
@@ -81,7 +71,16 @@ class InOrder(unittest.TestCase):
         for action in (lambda image: define_class(image, "Other", "Object", ["a"]), lambda image: define_global(image, "Home"),
                        lambda image: install(image, image.class_named("Point"), "go ^[:k | #a:b: + k + x]"),
                        lambda image: reshape(image, "Point", "Object", ["y", "x"])):
-            check_want_of_room(self, lambda: Watched(self, build()).image, action)
+            check_want_of_room(self, build, self.looked_at(action))
+
+    def looked_at(self, action):
+        """Returns an action behind which the image is looked at, also if it raises an error."""
+        def looking(image):
+            try:
+                action(image)
+            finally:
+                self.assertIsNone(fault_of(image))
+        return looking
 
     def test_nothing_changes(self):
         image = scene()
@@ -91,14 +90,6 @@ class InOrder(unittest.TestCase):
         fault_of(image)
         image.store().put(5, 0, before[0][before[0].index(5) + 3])
         self.assertEqual(before[2:], [image.symbols.texts(), image.space.collections, image.trace])
-
-
-class Watched:
-    """An image that is looked at behind each object that is made."""
-
-    def __init__(self, case, image):
-        self.image = image
-        case.assertIsNone(fault_of(image))
 
 
 def subject():
@@ -113,34 +104,9 @@ def subject():
     return image
 
 
-class Case(unittest.TestCase):
+class Case(Breaking, unittest.TestCase):
     def setUp(self):
-        self.image = subject()
-        self.assertIsNone(fault_of(self.image))
-
-    def breaks(self, why, word, at, *others):
-        """Looks at the fault that some other words in a slot make."""
-        before = self.image.get(word, at)
-        for other in others:
-            self.image.put(word, at, other)
-            self.assertEqual(fault_of(self.image), why, (word, at, other))
-        self.image.put(word, at, before)
-        self.assertIsNone(fault_of(self.image))
-
-    def breaks_root(self, why, k, *others):
-        before = self.image.space.root(k)
-        for other in others:
-            self.image.space.set_root(k, other)
-            self.assertEqual(fault_of(self.image), why, (k, other))
-        self.image.space.set_root(k, before)
-        self.assertIsNone(fault_of(self.image))
-
-    def breaks_kind(self, why, word, *others):
-        before = self.image.class_of(word)
-        for other in others:
-            self.image.store().set_kind(word // 2, other)
-            self.assertEqual(fault_of(self.image), why, (word, other))
-        self.image.store().set_kind(word // 2, before)
+        self.image, self.fault = subject(), fault_of
         self.assertIsNone(fault_of(self.image))
 
     def named(self, name):
@@ -189,9 +155,10 @@ class Words(Case):
             self.assertIsNone(fault_of(self.image))
 
     def test_it_comes_first(self):
+        word = self.image.array([0])
         self.image.space.set_root(0, 0)
         self.assertEqual(fault_of(self.image), "kernel")
-        self.image.array([-2])
+        self.image.put(word, 0, -2)
         self.assertEqual(fault_of(self.image), "words")
 
 
@@ -201,6 +168,8 @@ class Kernel(Case):
         classes = image.items(image.space.root(0))
         self.breaks_root("kernel", 0, 0, 5, 2, image.symbol("x"), self.named("Point"), image.space.root(1), self.array(classes[:14]),
                          self.array(classes + [self.named("Point")]), self.array([]))
+        # The remainders tell that these are no references.
+        self.breaks_root("kernel", 0, image.space.root(0) + 1, image.space.root(0) + 5)
         copy = self.array(classes)
         image.space.set_root(0, copy)
         self.assertIsNone(fault_of(image))
@@ -209,7 +178,9 @@ class Kernel(Case):
         image = self.image
         root = image.space.root(0)
         for k in range(15):
-            self.breaks("kernel", root, k, 0, 5, image.symbol("x"), image.get(root, (k + 1) % 15), self.home())
+            word = image.get(root, k)
+            others = [other for other in (word + 1, word + 5) if other % 4 == 1 or other // 4 < image.symbols.count()]
+            self.breaks("kernel", root, k, 0, 5, image.symbol("x"), image.get(root, (k + 1) % 15), self.home(), *others)
 
     def test_one_that_is_another_class(self):
         image = self.image
@@ -247,9 +218,18 @@ class Kernel(Case):
     def test_one_that_is_missing(self):
         # Neither a root nor a slot refers to it, but it must be there.
         image = new_image(1000, 100)
-        image.store().exchange(2, image.space.new(image.kernel("Object"), 0))
+        image.store().drop(2)
+        self.assertEqual(fault_of(image), "words")
         image.space.set_root(7, 0)
         self.assertEqual(fault_of(image), "kernel")
+
+    def test_one_that_has_a_slot(self):
+        for number, name in enumerate(("Undefined", "True", "False")):
+            image = new_image(1000, 100)
+            image.store().exchange(number, image.space.new(image.kernel(name), 1))
+            image.put(2 * number, 0, 0)
+            image.space.collect()
+            self.assertEqual(fault_of(image), "kernel")
 
     def test_the_roots_of_true_and_false(self):
         self.breaks_root("kernel", 6, 0, 4, 5, self.home())
@@ -296,6 +276,26 @@ class Classes(Case):
         self.breaks("classes", image.kernel("Array"), 4, of_int(1), 0)
         self.breaks("classes", image.kernel("Object"), 2, self.array([image.symbol("newest")]))
 
+    def test_a_superclass_that_leads_to_object(self):
+        # It has a class in the place of a superclass, but it is no class.
+        image = self.image
+        define_class(image, "Bare", "Object", [])
+        looks = self.array(image.items(self.named("Bare")))
+        self.breaks("classes", self.named("Bare"), 1, looks)
+        for name in KERNEL[1:]:
+            self.breaks("classes", self.named("Bare"), 1, image.kernel(name))
+
+    def test_fields_of_a_kernel_class(self):
+        # The number of fields is right.
+        image = self.image
+        for name in ("Array", "Association"):
+            image.put(image.kernel(name), 4, of_int(1))
+            image.put(image.kernel(name), 2, self.array([image.symbol("single")]))
+            self.assertEqual(fault_of(image), "classes")
+            image.put(image.kernel(name), 2, self.array([]))
+            image.put(image.kernel(name), 4, of_int(0))
+            self.assertIsNone(fault_of(image))
+
     def test_kernel_classes_in_another_order(self):
         image = self.image
         root = image.space.root(0)
@@ -316,6 +316,29 @@ class Classes(Case):
         dot = self.named("Dot")
         self.breaks("classes", dot, 2, 0, 5, self.home(), image.symbol("x"), image.kernel("Array"), *[self.array(row) for row in rows])
         self.breaks("classes", dot, 3, 0, 5, self.home(), image.symbol("x"), image.kernel("Array"))
+
+    def test_fields_that_are_counted_right(self):
+        image = self.image
+        define_class(image, "Bare", "Object", [])
+        bare = self.named("Bare")
+        for row in (["a", "a"], ["a", "b", "a"], ["X"], ["a", "nil"]):
+            image.put(bare, 4, of_int(len(row)))
+            self.breaks_pair(bare, [image.symbol(name) for name in row])
+        image.put(bare, 4, of_int(2))
+        image.put(bare, 2, self.array([image.symbol("a"), image.symbol("b")]))
+        self.assertIsNone(fault_of(image))
+        # A field of the superclass counts, too.
+        image.put(bare, 4, of_int(4))
+        image.put(bare, 1, self.named("Point"))
+        self.assertIsNone(fault_of(image))
+        self.breaks_pair(bare, [image.symbol("a"), image.symbol("y")])
+
+    def breaks_pair(self, word, row):
+        """Looks at a class with other own fields."""
+        before = self.image.get(word, 2)
+        self.image.put(word, 2, self.array(row))
+        self.assertEqual(fault_of(self.image), "classes", row)
+        self.image.put(word, 2, before)
 
     def test_the_number_of_fields(self):
         image = self.image
@@ -437,6 +460,7 @@ class Methods(Case):
         for word in kinds:
             image.space.hold(word)
         self.breaks("methods", method, 3, 0, 5, self.home(), image.get(method, 4), image.get(self.method("Point", "x"), 3), *kinds)
+        self.breaks("methods", method, 3, self.array(code))
         self.breaks("methods", image.get(method, 3), 1, of_int(0), of_int(-1), of_int(GREATEST), of_int(22 * 65536))
 
     def test_literals(self):
@@ -452,6 +476,16 @@ class Methods(Case):
                     self.breaks("methods", word, k, number + 4, number - 4, 0, image.symbol("x"))
                 numbers = image.items(word)
                 self.breaks("methods", literals, at, self.array(numbers[:3]), self.array(numbers + [5]))
+
+    def test_literals_that_are_no_arrays(self):
+        # Objects of Code hold the same numbers.
+        image = self.image
+        method = install(image, self.named("Spot"), "a ^7")
+        self.breaks("methods", method, 4, image.array_of("Code", [of_int(7)]))
+        literals = image.get(self.method(), 4)
+        row = image.items(literals)
+        at = [k for k, word in enumerate(row) if word % 2 == 0][0]
+        self.breaks("methods", literals, at, image.array_of("Code", image.items(row[at])))
 
     def test_a_global_among_the_literals(self):
         image = self.image
@@ -474,6 +508,7 @@ class Methods(Case):
         image.space.drop(image.space.held())
         self.assertIsNone(fault_of(image))
         self.breaks("methods", method, 5, of_int(0))
+        self.breaks("methods", method, 1, 0, 5, self.home(), image.kernel("Object"))
         image.put(self.home(), 0, 0)
         image.put(method, 5, of_int(0))
         self.assertIsNone(fault_of(image))

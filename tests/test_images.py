@@ -5,7 +5,7 @@ import unittest
 
 from saggar.errors import BadImage
 from saggar.faults import fault_of
-from saggar.images import loaded, saved
+from saggar.images import copied, loaded, saved
 from saggar.kernel import define_class, define_global, new_image
 from saggar.methods import install
 from saggar.processes import running
@@ -97,6 +97,13 @@ class Saving(unittest.TestCase):
         self.assertEqual(numbers[symbols[known + 1]:symbols[known + 2]], [95, 10] + [code for code in range(32, 127) if code != 37])
         self.assertEqual(numbers[symbols[known + 2]:symbols[known + 2] + 4], [3, 97, 10, 98])
         self.assertEqual(loaded(numbers).symbols.texts(), image.symbols.texts())
+
+    def test_copies_with_traces(self):
+        image = scene()
+        copy = copied(image)
+        self.assertEqual([saved(copy), copy.trace], [saved(image), image.trace])
+        copy.trace.clear()
+        self.assertEqual(len(image.trace), 3)
 
     def test_nothing_changes(self):
         image = scene()
@@ -305,6 +312,8 @@ class BadNumbers(unittest.TestCase):
             left = len(self.numbers) - at - 1
             for count in (-1, -10 ** 40, left + 1, 10 ** 40):
                 self.bad("numbers", self.changed(at, count))
+        self.bad("kernel", [1000, 100, 0] + [0] * 16 + [3] + [0] * 6)
+        self.bad("numbers", [1000, 100, 0] + [0] * 16 + [2] + [0] * 4)
         for count in (0, 1, 2):
             self.bad("numbers", self.changed(self.count, count))
             self.bad("numbers", self.numbers[:self.count] + [count])

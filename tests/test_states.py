@@ -9,23 +9,12 @@ from saggar.processes import current, number_of, ready, running, spawn
 from saggar.running import run_image
 from saggar.states import state_fault
 from saggar.words import GREATEST, LEAST, of_int
+from tests.breaking import Breaking, watch
 from tests.machines import machine, point_image, started
 from tests.test_programs import PROGRAMS, image_for
 from tests.test_running import ENDS, point_machine
 
 CONTEXT, NEXT, NUMBER, STATE, RESULT = range(5)
-
-
-def watch(case, image, choices=(), limit=400):
-    """Runs an image step by step and looks before and behind each step."""
-    case.assertIsNone(state_fault(image))
-    for count in range(limit):
-        before = len(image.trace)
-        left = [choices[count % len(choices)]] if choices else []
-        if run_image(image, left, 1) != ("weary",):
-            break
-        case.assertIsNone(state_fault(image), (count, image.trace[before:]))
-    case.assertIsNone(state_fault(image))
 
 
 class InOrder(unittest.TestCase):
@@ -36,19 +25,19 @@ class InOrder(unittest.TestCase):
     def test_programs(self):
         for seed in range(0, 60, 3):
             program, choices = PROGRAMS[seed]
-            watch(self, image_for(program), choices)
+            watch(self, state_fault, image_for(program), choices)
 
     def test_programs_that_collect(self):
         program, choices = PROGRAMS[5]
         image = image_for(program)
         image.space.press([], always=True)
-        watch(self, image, choices, 200)
+        watch(self, state_fault, image, choices, 200)
 
     def test_ends(self):
         for source, _ in ENDS:
             image = point_machine()
             started(image, "go " + source)
-            watch(self, image)
+            watch(self, state_fault, image)
             image.space.collect()
             self.assertIsNone(state_fault(image))
 
@@ -57,7 +46,7 @@ class InOrder(unittest.TestCase):
         started(image, "go [1 show] fork. ^2")
         for extra in range(30):
             image.store().room = image.space.live_words() + extra
-            watch(self, image)
+            watch(self, state_fault, image)
 
     def test_nothing_changes(self):
         image = scene()
@@ -68,6 +57,7 @@ class InOrder(unittest.TestCase):
 
 SOURCE = "go: k | b t | b := [:e | | v | [e show. nil yield. ^k]]. t := b value: 3. t := t value. ^t"
 WAITING = "go Gate wait. nil yield. ^7"
+DEEPER = "go ^7 = Gate wait"
 
 
 def scene():
@@ -75,7 +65,7 @@ def scene():
     image = point_image()
     define_global(image, "Gate")
     define_global(image, "Other")
-    for source in ("go Gate := Semaphore new. Other := Semaphore new. Other signal. ^Gate", WAITING, WAITING):
+    for source in ("go Gate := Semaphore new. Other := Semaphore new. Other signal. ^Gate", WAITING, DEEPER):
         started(image, source)
     run_image(image, [], 100)
     for number in (1, 2):
@@ -96,30 +86,13 @@ def objects(image, name):
     return [2 * number for number in store.numbers() if store.kind(number) == image.kernel(name)]
 
 
-class Broken(unittest.TestCase):
+class Broken(Breaking, unittest.TestCase):
     """Each rule is broken by one slot or root, which is taken back."""
 
     def setUp(self):
-        self.image = scene()
+        self.image, self.fault = scene(), state_fault
 
     def tearDown(self):
-        self.assertIsNone(state_fault(self.image))
-
-    def breaks(self, why, word, at, *others):
-        """Looks at the fault that some other words in a slot make."""
-        before = self.image.get(word, at)
-        for other in others:
-            self.image.put(word, at, other)
-            self.assertEqual(state_fault(self.image), why, (word, at, other))
-        self.image.put(word, at, before)
-        self.assertIsNone(state_fault(self.image))
-
-    def breaks_root(self, why, k, *others):
-        before = self.image.space.root(k)
-        for other in others:
-            self.image.space.set_root(k, other)
-            self.assertEqual(state_fault(self.image), why, (k, other))
-        self.image.space.set_root(k, before)
         self.assertIsNone(state_fault(self.image))
 
     def inner(self):
@@ -172,6 +145,17 @@ class Broken(unittest.TestCase):
                 self.breaks("block", word, 0, other, image.get(other, OUTER))
                 self.breaks("block", word, 1, image.get(other, DESCRIPTOR), image.get(image.get(other, OUTER), DESCRIPTOR))
 
+    def test_a_block_of_what_is_no_context(self):
+        image = self.image
+        for word in objects(image, "Block"):
+            # An Array and a method have as many slots as a context, but are none.
+            looks = image.space.hold(image.array(image.items(image.get(word, 0))))
+            self.breaks("block", word, 0, looks, image.get(current(image), METHOD))
+            # The context outwards must have a routine itself.
+            outer = image.get(word, 0)
+            if image.get(outer, DESCRIPTOR) != 0:
+                self.breaks("block", outer, DESCRIPTOR, 5, 2, image.symbol("go"))
+
     def test_an_equal_descriptor_is_another_one(self):
         image = self.image
         word = objects(image, "Block")[0]
@@ -201,9 +185,26 @@ class Broken(unittest.TestCase):
         other = image.get(ready(image)[0], CONTEXT)
         self.breaks("context", context, OUTER, 0, 5, home, context, other, image.get(other, OUTER), image.symbol("go"))
         self.breaks("context", middle, OUTER, 0, middle, context, image.get(image.get(other, OUTER), OUTER))
+        for word in (context, middle):
+            looks = image.space.hold(image.array(image.items(image.get(word, OUTER))))
+            self.breaks("context", word, OUTER, looks, image.get(word, METHOD))
         # The context of a method has none.
         self.breaks("context", home, OUTER, home, middle, 5)
         self.breaks("context", self.plain(), OUTER, home, of_int(0), 2)
+
+    def test_the_method_of_the_context_outwards(self):
+        # It is the context of a method with the same receiver, and it makes a block, but of another method.
+        image = self.image
+        middle = image.get(current(image), OUTER)
+        home = image.get(middle, OUTER)
+        method = image.get(image.get(ready(image)[0], CONTEXT), METHOD)
+        row = image.items(home)
+        row[METHOD] = method
+        row[SENDER] = 0
+        row[FIXED + 1:] = [0] * len(row[FIXED + 1:])
+        other = image.space.hold(image.array_of("Context", row))
+        self.assertIsNone(state_fault(image))
+        self.breaks("context", middle, OUTER, other)
 
     def test_the_receiver_of_the_context_outwards(self):
         context, home = self.inner()
@@ -252,7 +253,9 @@ class Broken(unittest.TestCase):
     def test_the_sender_of_a_context(self):
         image = self.image
         left = image.get(current(image), OUTER)
-        self.breaks("context", left, SENDER, 5, image.symbol("go"), image.kernel("Context"), ready(image)[0], 2)
+        looks = image.array(image.items(self.plain()))
+        self.breaks("context", left, SENDER, 5, image.symbol("go"), image.kernel("Context"), ready(image)[0], 2, looks,
+                    image.get(left, METHOD))
         image.put(left, SENDER, self.plain())
         self.assertIsNone(state_fault(image))
 
@@ -261,6 +264,17 @@ class Broken(unittest.TestCase):
         self.breaks("process", running(image), STATE, of_int(1), of_int(2), of_int(-1), 0, image.symbol("go"))
         self.breaks("process", running(image), NEXT, running(image), ready(image)[0], self.waiting()[0], 5, 2)
         self.breaks_root("process", 2, 0, 5, ready(image)[0], self.waiting()[0], self.gate(), image.symbol("go"), 2)
+
+    def test_what_is_no_process(self):
+        image = self.image
+        looks = image.space.hold(image.array(image.items(ready(image)[1])))
+        self.breaks_root("process", 2, looks, image.kernel("Process"))
+        self.breaks_root("process", 4, looks, image.kernel("Process"))
+        self.breaks("process", ready(image)[0], NEXT, looks)
+        last = self.waiting()[1]
+        looks = image.space.hold(image.array(image.items(last)))
+        self.breaks("semaphore", self.waiting()[0], NEXT, looks)
+        self.breaks("semaphore", last, CONTEXT, image.space.hold(image.array(image.items(image.get(last, CONTEXT)))))
 
     def test_the_ready_processes(self):
         image = self.image
@@ -391,12 +405,32 @@ class NotReached(unittest.TestCase):
                 ("Block", [0, 0], "block"), ("Context", [0] * 7, "context"), ("Context", [0, 0, 1, 1, 0, 0, 0], "context"),
                 ("Semaphore", [0, 0, 0], "semaphore"), ("Semaphore", [of_int(-1), 0, 0], "semaphore"),
                 ("Process", [0, 0, 0, 0, 0], "process"), ("Process", [0, 0, of_int(1), of_int(0), 0], "process"),
-                ("Process", [0, 0, of_int(1), of_int(2), 0], "process")):
+                ("Process", [0, 0, of_int(1), of_int(2), 0], "process"), ("Block", [], "block"), ("Block", [0] * 3, "block"),
+                ("Context", [], "context"), ("Context", [0] * 6, "context"), ("Semaphore", [], "semaphore"),
+                ("Semaphore", [of_int(0), 0, 0, 0], "semaphore"), ("Process", [], "process"), ("Process", [0] * 6, "process")):
             image = machine()
             image.array_of(name, row)
             self.assertEqual(state_fault(image), why, (name, row))
             image.space.collect()
             self.assertIsNone(state_fault(image))
+
+    def test_a_block_of_a_small_context(self):
+        image = machine()
+        context = image.array_of("Context", [0] * 6)
+        image.array_of("Block", [context, 0])
+        self.assertEqual(state_fault(image), "block")
+
+    def test_processes_of_other_sizes(self):
+        image = machine()
+        image.space.set_root(5, of_int(9))
+        for row in ([0, 0, of_int(1), of_int(2)], [0, 0, of_int(1), of_int(2), 0, 0]):
+            image.array_of("Process", row)
+            self.assertEqual(state_fault(image), "process")
+            image.space.collect()
+        small = image.array_of("Process", [0, 0, of_int(1), of_int(0)])
+        image.space.set_root(3, small)
+        image.space.set_root(4, small)
+        self.assertEqual(state_fault(image), "process")
 
     def test_those_in_order(self):
         image = machine()
@@ -447,6 +481,7 @@ class OddMethods(unittest.TestCase):
         inner = [word for word in image.items(literals) if word % 2 == 0]
         changes = [(method, 3, literals), (method, 3, 0), (method, 4, code), (method, 4, 5), (method, 6, 0), (method, 7, 2),
                    (code, 0, of_int(-1)), (code, 0, of_int(22 * 65536)), (code, 0, 0), (code, 1, of_int(18 * 65536 + 60000)),
+                   (code, 1, of_int(18 * 65536 + len(draft.code))), (code, 0, of_int(17 * 65536 + len(draft.literals))),
                    (code, 0, of_int(17 * 65536 + 99)), (inner[0], 2, 0), (inner[0], 2, of_int(-1)), (inner[0], 2, of_int(999))]
         for word, at, other in changes:
             before = image.get(word, at)
