@@ -71,6 +71,7 @@ def moved(word, places):
 
 def loaded(numbers):
     """Returns the image of some numbers; raises BadImage if it is none in order."""
+    check_room(numbers)
     image = image_of(numbers)
     if not has_words(image):
         raise BadImage("words")
@@ -82,6 +83,13 @@ def loaded(numbers):
     return image
 
 
+def check_room(numbers):
+    """Raises BadImage if the first two numbers are no room and no number of entries."""
+    room, entries = Loader(numbers).take_row(2)
+    if not LEAST_ROOM <= room <= MOST_ROOM or not LEAST_ENTRIES <= entries <= MOST:
+        raise BadImage("room")
+
+
 def copied(image):
     """Returns a copy of an image in order, with its trace."""
     copy = image_of(saved(image))
@@ -90,7 +98,7 @@ def copied(image):
 
 
 def image_of(numbers):
-    """Returns the image of some numbers, which may be out of order."""
+    """Returns the image of some numbers; asks only whether they can be read."""
     return Loader(numbers).read_image()
 
 
@@ -126,8 +134,6 @@ class Loader:
     def read_image(self):
         """Returns the image of all numbers."""
         room, entries = self.take_row(2)
-        if not LEAST_ROOM <= room <= MOST_ROOM or not LEAST_ENTRIES <= entries <= MOST:
-            raise BadImage("room")
         image = Image(room, entries)
         self.take_symbols(image.symbols)
         for k, word in enumerate(self.take_row(ROOTS)):

@@ -425,7 +425,7 @@ class StayingAlike(unittest.TestCase):
 
     def test_programs(self):
         chance = random.Random(8)
-        for seed in range(6, 60, 9):
+        for seed in range(6, 60, 18):
             program, choices = PROGRAMS[seed]
             one, other = image_for(program), image_for(program)
             other_way(other, chance)

@@ -46,7 +46,7 @@ class InOrder(unittest.TestCase):
     def test_programs(self):
         for seed in range(2, 60, 20):
             program, choices = PROGRAMS[seed]
-            watch(self, fault_of, image_for(program), choices, 90)
+            watch(self, fault_of, image_for(program), choices, 60)
 
     def test_a_program_that_collects(self):
         program, choices = PROGRAMS[7]
@@ -710,7 +710,7 @@ class AtRandom(unittest.TestCase):
             run_image(image, choices, 60 * seed)
             snapshot = image.store().snapshot()
             roots = [image.space.root(k) for k in range(16)]
-            for _ in range(120):
+            for _ in range(90):
                 self.disturb(image, chance)
                 found = fault_of(image)
                 seen[found] = seen.get(found, 0) + 1

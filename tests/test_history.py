@@ -35,6 +35,12 @@ def run_to(image, choices, step):
     return copy
 
 
+def run_in_place(image, step):
+    """Returns an image itself, run to a step."""
+    run_image(image, [], step)
+    return image
+
+
 def look(image, name):
     return shown(image, image.get(image.association(name), 1))
 
@@ -343,6 +349,14 @@ class Room(unittest.TestCase):
         _, other = self.stuck()
         self.assertEqual([other.advance(count), other.advance(0), other.advance(1), other.advance(0)], [WEARY, WEARY, STUCK, WEARY])
         self.assertEqual(other.steps(), count)
+
+    def test_a_room_that_is_smaller_than_that_of_new_images(self):
+        image = counting(["go Sum := Array new: 9. Sum := Array new: 90"])
+        image.store().room = image.space.live_words() + 50
+        self.assertLess(image.store().room, 1000)
+        history = History(image, [], 3, ["Sum"])
+        self.assertEqual([history.advance(1000), history.changes()[-1][3]], [STUCK, ("object", "Array")])
+        self.assertEqual(saved(history.at(history.steps())), saved(run_in_place(image, history.steps())))
 
     def test_a_branch_of_it(self):
         # It comes to the same step, or ends before.

@@ -238,7 +238,7 @@ class GoingOn(unittest.TestCase):
         self.assertGreater(count, 100)
 
     def test_amid_programs(self):
-        for seed in range(1, 60, 8):
+        for seed in range(1, 60, 12):
             program, choices = PROGRAMS[seed]
             plain, image = image_for(program), image_for(program)
             run_image(plain, choices, 400)

@@ -23,7 +23,7 @@ class InOrder(unittest.TestCase):
         self.assertIsNone(state_fault(machine()))
 
     def test_programs(self):
-        for seed in range(0, 60, 3):
+        for seed in range(0, 60, 5):
             program, choices = PROGRAMS[seed]
             watch(self, state_fault, image_for(program), choices)
 
